@@ -4,11 +4,13 @@ package junction
 import (
 	"junction/api"
 	"junction/rules"
+	"junction/tree"
 )
 
 // Table is rules that were compiled, or a table that was loaded.
 type Table struct {
 	book *rules.Book
+	tree *tree.Tree
 }
 
 // Compile makes a table of rules (P2).
@@ -19,14 +21,15 @@ func Compile(text string) (table *Table, kind api.Kind, line int) {
 			table, kind, line = nil, fault.Kind, fault.Line
 		}
 	}()
-	return &Table{rules.Read(text)}, api.Fine, 0
+	book := rules.Read(text)
+	return &Table{book, tree.Grow(book)}, api.Fine, 0
 }
 
 // Text tells the plain text (P3).
 func (t *Table) Text() string { return t.book.Plain() }
 
 // Decide tells what becomes of a payment (P4).
-func (t *Table) Decide(p api.Payment, down []string) api.Outcome { return api.Outcome{} }
+func (t *Table) Decide(p api.Payment, down []string) api.Outcome { return t.tree.Decide(p, down) }
 
 // Overlaps tells which rules meet (P5).
 func (t *Table) Overlaps() []api.Overlap { return nil }
