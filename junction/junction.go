@@ -3,6 +3,7 @@ package junction
 
 import (
 	"junction/api"
+	"junction/regions"
 	"junction/rules"
 	"junction/tree"
 )
@@ -32,10 +33,10 @@ func (t *Table) Text() string { return t.book.Plain() }
 func (t *Table) Decide(p api.Payment, down []string) api.Outcome { return t.tree.Decide(p, down) }
 
 // Overlaps tells which rules meet (P5).
-func (t *Table) Overlaps() []api.Overlap { return nil }
+func (t *Table) Overlaps() []api.Overlap { return regions.Overlaps(t.book) }
 
 // Dead tells which rules never decide (P6).
-func (t *Table) Dead() []string { return nil }
+func (t *Table) Dead() []string { return regions.Dead(t.book) }
 
 // Image tells the table as bytes (P7).
 func (t *Table) Image() string { return "" }
