@@ -2,6 +2,8 @@
 package junction
 
 import (
+	"slices"
+
 	"junction/api"
 	"junction/regions"
 	"junction/rules"
@@ -30,7 +32,9 @@ func Compile(text string) (table *Table, kind api.Kind, line int) {
 func (t *Table) Text() string { return t.book.Plain() }
 
 // Decide tells what becomes of a payment (P4).
-func (t *Table) Decide(p api.Payment, down []string) api.Outcome { return t.tree.Decide(p, down) }
+func (t *Table) Decide(p api.Payment, down []string) api.Outcome {
+	return t.tree.Decide(p, func(route string) bool { return slices.Contains(down, route) })
+}
 
 // Overlaps tells which rules meet (P5).
 func (t *Table) Overlaps() []api.Overlap { return regions.Overlaps(t.book) }
@@ -39,25 +43,16 @@ func (t *Table) Overlaps() []api.Overlap { return regions.Overlaps(t.book) }
 func (t *Table) Dead() []string { return regions.Dead(t.book) }
 
 // Image tells the table as bytes (P7).
-func (t *Table) Image() string { return "" }
+func (t *Table) Image() string { return t.tree.Image() }
 
 // Load makes a table of bytes (P7).
-func Load(image string) (*Table, bool) { return nil, false }
-
-// Switch handles payments.
-type Switch struct{}
-
-// NewSwitch makes a switch without rules (P8).
-func NewSwitch() *Switch { return nil }
-
-// Install takes new rules (P8).
-func (s *Switch) Install(text string) (api.Kind, int) { return api.Fine, 0 }
-
-// Put takes a new table (P8).
-func (s *Switch) Put(image string) bool { return false }
-
-// Set says that a route is up, or down (P8).
-func (s *Switch) Set(route string, up bool) {}
-
-// Handle tells what becomes of a payment (P8).
-func (s *Switch) Handle(message string) api.Outcome { return api.Outcome{} }
+func Load(image string) (table *Table, ok bool) {
+	// The reader gives up by panic, from wherever it finds that this is none.
+	defer func() {
+		if recover() != nil {
+			table, ok = nil, false
+		}
+	}()
+	// An image tells nothing of the text: the book stays empty.
+	return &Table{&rules.Book{}, tree.Read(image)}, true
+}

@@ -109,6 +109,29 @@ func isDigit(c byte) bool  { return '0' <= c && c <= '9' }
 func inWord(c byte) bool   { return isSmall(c) || isDigit(c) }
 func inRemark(c byte) bool { return c != '\n' }
 
+// AllDigits tells whether a text has no other sign.
+func AllDigits(text string) bool {
+	for _, c := range []byte(text) {
+		if !isDigit(c) {
+			return false
+		}
+	}
+	return true
+}
+
+// IsName tells whether a text is, whole, a name that a route or a rule may have.
+func IsName(text string) bool {
+	if text == "" || len(text) > api.MaxName || !isSmall(text[0]) || isKeyword(text) {
+		return false
+	}
+	for _, c := range []byte(text) {
+		if !inWord(c) {
+			return false
+		}
+	}
+	return true
+}
+
 func isKeyword(word string) bool {
 	switch word {
 	case "route", "rule", "bin", "mcc", "amount", "cur", "decline", "cheapest":

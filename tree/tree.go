@@ -3,13 +3,11 @@
 package tree
 
 import (
-	"slices"
-
 	"junction/api"
 	"junction/rules"
 )
 
-// Tree is a table that decides. It is never changed once it is grown.
+// Tree is a table that decides. It is never changed once it is grown, or read.
 type Tree struct {
 	routes   []rules.Route
 	names    []string // of the rules
@@ -24,11 +22,11 @@ type node struct {
 }
 
 // Decide tells what becomes of a payment.
-func (t *Tree) Decide(p api.Payment, down []string) api.Outcome {
+func (t *Tree) Decide(p api.Payment, isDown func(route string) bool) api.Outcome {
 	if !isPayment(p) {
 		return api.Outcome{Kind: api.Format}
 	}
-	r := run{tree: t, payment: p, down: t.downs(down)}
+	r := run{tree: t, payment: p, down: t.downs(isDown)}
 	r.through(t.programs[t.leaf(p.Pan)])
 	return r.outcome
 }
@@ -43,10 +41,10 @@ func (t *Tree) leaf(pan string) int {
 	return at.program
 }
 
-func (t *Tree) downs(names []string) [api.MaxRoutes]bool {
+func (t *Tree) downs(isDown func(route string) bool) [api.MaxRoutes]bool {
 	var down [api.MaxRoutes]bool
 	for i, r := range t.routes {
-		down[i] = slices.Contains(names, r.Name)
+		down[i] = isDown(r.Name)
 	}
 	return down
 }
@@ -56,12 +54,7 @@ func isPayment(p api.Payment) bool {
 }
 
 func isPan(pan string) bool {
-	for _, c := range []byte(pan) {
-		if c < '0' || c > '9' {
-			return false
-		}
-	}
-	return len(pan) >= api.MinPan && len(pan) <= api.MaxPan
+	return len(pan) >= api.MinPan && len(pan) <= api.MaxPan && rules.AllDigits(pan)
 }
 
 func upTo(n, most int) bool { return n >= 0 && n <= most }
